@@ -1,0 +1,1 @@
+"""Refpack: smallest files for tables whose columns predict one another."""
