@@ -1,0 +1,63 @@
+"""Plans: one recipe for each column of a table."""
+
+from refpack.errors import CircularReferences
+from refpack.references import chained_columns, circle_of
+from refpack.sections import KINDS, section_of, section_size
+from refpack.tables import header_size, place_of
+
+
+def choice_of(table, plan):
+    """The choice of the plan."""
+    choice = tuple([None if recipe[1] is None else place_of(table, recipe[1]) for recipe in plan])
+    if circle_of(choice) is not None:
+        raise CircularReferences("the plan is circular")
+    return choice
+
+
+def check_plan(table, plan):
+    """None for a plan that can be used."""
+    choice_of(table, plan)
+
+
+def plan_sections(table, plan):
+    """The sections of the plan."""
+    sections = []
+    for (_, _, values), (kind, _, width), place in zip(table, plan, choice_of(table, plan)):
+        reference = None if place is None else table[place][2]
+        sections.append(section_of(kind, width, values, reference))
+    return tuple(sections)
+
+
+def plan_sizes(table, plan):
+    """The sizes of the sections of the plan."""
+    sections = plan_sections(table, plan)
+    return tuple([section_size(recipe[2], section) for recipe, section in zip(plan, sections)])
+
+
+def file_size(table, plan):
+    """The size of the file of the plan."""
+    return header_size(table) + sum(plan_sizes(table, plan))
+
+
+def _sort_keys(table, plan):
+    """For each recipe a tuple that is compared as recipes are."""
+    keys = []
+    for (kind, _, width), place in zip(plan, choice_of(table, plan)):
+        keys.append((KINDS.index(kind), -1 if place is None else place, width))
+    return keys
+
+
+def plan_order(table, first, second):
+    """-1 if the first plan comes before the second one, 1 if it comes after it, 0 if they are equal."""
+    first_keys = _sort_keys(table, first)
+    second_keys = _sort_keys(table, second)
+    if first_keys == second_keys:
+        return 0
+    return -1 if first_keys < second_keys else 1
+
+
+def needed_columns(table, plan, names):
+    """The names of the columns whose sections are needed, in the order of the table."""
+    choice = choice_of(table, plan)
+    places = [place_of(table, name) for name in names]
+    return tuple([table[place][0] for place in chained_columns(choice, places)])
