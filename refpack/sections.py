@@ -11,6 +11,16 @@ KINDS = ("frame", "step", "dictionary", "offset", "lookup")
 GREATEST_WIDTH = 32
 
 
+def has_reference(kind):
+    """Whether sections of the kind are stored relative to another column."""
+    return kind in ("offset", "lookup")
+
+
+def has_one_entry(kind):
+    """Whether sections of the kind have one entry, whatever the values are."""
+    return kind in ("frame", "step", "offset")
+
+
 def size_with(many, width, entry_count, patch_count):
     """The number of bytes of a section for so many rows."""
     return 7 + 4 * entry_count + 6 * patch_count + packed_length(many, width)

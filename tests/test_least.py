@@ -1,39 +1,12 @@
 """[90] to [94]: total costs, the least total, least choices in their order, fixed references, switches."""
 
-import itertools
 import random
 import unittest
 
+from slow_costs import COSTS, EVERY, cost_of, counting
+
 from refpack.errors import CircularReferences
 from refpack.least import count_least, each_least, first_least, least_total, switch_of, total_cost
-
-COSTS = ((13, 12, 12), (12, 14, 11), (12, 11, 14))
-
-
-def is_circular(choice):
-    for column in range(len(choice)):
-        for _ in choice:
-            column = None if column is None else choice[column]
-        if column is not None:
-            return True
-    return False
-
-
-def every_choice(many):
-    """All choices that are not circular, in their order."""
-    options = [(None, *(other for other in range(many) if other != column)) for column in range(many)]
-    return [choice for choice in itertools.product(*options) if not is_circular(choice)]
-
-
-EVERY = {many: every_choice(many) for many in range(1, 6)}
-
-
-def cost_of(costs, choice):
-    return sum(costs[column][column if reference is None else reference] for column, reference in enumerate(choice))
-
-
-def counting(many, fixed):
-    return [choice for choice in EVERY[many] if all(choice[column] == reference for column, reference in fixed)]
 
 
 def least_of(costs, choices):

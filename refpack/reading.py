@@ -1,0 +1,61 @@
+"""Tables and plans from files: the values of the columns are computed from their sections."""
+
+from refpack.errors import BadSection, BadValues, CircularReferences
+from refpack.parsing import parsed
+from refpack.references import computing_order
+from refpack.sections import section_size, stored_values
+from refpack.tables import header_size, label_count_of
+
+
+def choice_in(parts):
+    """The references of the parts."""
+    return tuple([reference for _, _, (_, reference, _), _ in parts])
+
+
+def values_in(parts, order):
+    """The values of the columns of the order, by their indices; each one behind its reference."""
+    found = {}
+    for place in order:
+        name, labels, (kind, reference, _), section = parts[place]
+        try:
+            found[place] = stored_values(kind, section, found.get(reference), label_count_of(labels))
+        except BadSection as fault:
+            raise BadValues(name, fault.row)
+    return found
+
+
+def computed(contents):
+    """The table that a number of rows and parts give."""
+    _, parts = contents
+    values = values_in(parts, computing_order(choice_in(parts)))
+    if len(values) < len(parts):
+        raise CircularReferences("a column cannot be computed")
+    return tuple([(name, labels, values[place]) for place, (name, labels, _, _) in enumerate(parts)])
+
+
+def _named_recipe(parts, recipe):
+    """The recipe with the name of the reference in the place of its index."""
+    kind, reference, width = recipe
+    return kind, None if reference is None else parts[reference][0], width
+
+
+def read_file(numbers):
+    """The table of a file, and the plan with its recipes."""
+    contents = parsed(numbers)
+    _, parts = contents
+    table = computed(contents)
+    return table, tuple([_named_recipe(parts, recipe) for _, _, recipe, _ in parts])
+
+
+def listed(numbers):
+    """What each column of a file has: recipe, numbers of entries and patches, place and size of its section."""
+    table, plan = read_file(numbers)
+    _, parts = parsed(numbers)
+    place = header_size(table)
+    found = []
+    for (name, _, _, section), (kind, reference, width) in zip(parts, plan):
+        entries, patches, _ = section
+        size = section_size(width, section)
+        found.append((name, kind, reference, width, len(entries), len(patches), place, size))
+        place = place + size
+    return tuple(found)
