@@ -22,22 +22,26 @@ def load_of(pairs, column, reference):
     return sum([amount for members, amount in pairs if column in members and reference not in members])
 
 
-def excess_with(costs, pairs, options, column):
-    """The excess of the column, which can have the references of its options."""
+def _excess_with(costs, pairs, column, references):
+    """The excess of the column, which can have these references."""
     overloads = [0]
-    for reference in options[column]:
+    for reference in references:
         overloads.append(load_of(pairs, column, reference) - arc_cost(costs, column, reference))
     return max(overloads)
 
 
+def excesses_of(costs, pairs, fixed):
+    """The excesses of all columns."""
+    options = options_of(len(costs), fixed)
+    return tuple([_excess_with(costs, pairs, column, options[column]) for column in range(len(costs))])
+
+
 def excess_of(costs, pairs, column, *, fixed=()):
     """The greatest amount by which a load of the column exceeds its cost."""
-    return excess_with(costs, pairs, options_of(len(costs), fixed), column)
+    return excesses_of(costs, pairs, fixed)[column]
 
 
 def dual_bound(costs, pairs, *, fixed=()):
     """The bound of the pairs: no choice that counts and is not circular has a lesser total cost."""
-    options = options_of(len(costs), fixed)
     amounts = [amount for _, amount in pairs]
-    excesses = [excess_with(costs, pairs, options, column) for column in range(len(costs))]
-    return max(0, sum(amounts) - sum(excesses))
+    return max(0, sum(amounts) - sum(excesses_of(costs, pairs, fixed)))

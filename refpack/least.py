@@ -111,7 +111,7 @@ def count_least(costs, *, fixed=()):
     return len(list(each_least(costs, fixed=fixed)))
 
 
-def _with_options(options, column, references):
+def with_options(options, column, references):
     """The options, but with other ones for a column."""
     return (*options[:column], tuple(references), *options[column + 1:])
 
@@ -121,6 +121,6 @@ def switch_of(costs, column, reference, *, fixed=()):
     options = options_of(len(costs), fixed)
     same = [option for option in options[column] if option == reference]
     others = [option for option in options[column] if option != reference]
-    with_it = least_with(costs, _with_options(options, column, same))
-    without_it = least_with(costs, _with_options(options, column, others))
+    with_it = least_with(costs, with_options(options, column, same))
+    without_it = least_with(costs, with_options(options, column, others))
     return with_it, without_it

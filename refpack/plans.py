@@ -28,10 +28,14 @@ def plan_sections(table, plan):
     return tuple(sections)
 
 
+def sizes_with(plan, sections):
+    """The sizes of sections that have the widths of the plan."""
+    return tuple([section_size(recipe[2], section) for recipe, section in zip(plan, sections)])
+
+
 def plan_sizes(table, plan):
     """The sizes of the sections of the plan."""
-    sections = plan_sections(table, plan)
-    return tuple([section_size(recipe[2], section) for recipe, section in zip(plan, sections)])
+    return sizes_with(plan, plan_sections(table, plan))
 
 
 def file_size(table, plan):
@@ -39,12 +43,15 @@ def file_size(table, plan):
     return header_size(table) + sum(plan_sizes(table, plan))
 
 
+def recipe_key(recipe):
+    """A tuple that is compared as recipes for a column are; the reference of the recipe is an index or None."""
+    kind, place, width = recipe
+    return KINDS.index(kind), -1 if place is None else place, width
+
+
 def _sort_keys(table, plan):
-    """For each recipe a tuple that is compared as recipes are."""
-    keys = []
-    for (kind, _, width), place in zip(plan, choice_of(table, plan)):
-        keys.append((KINDS.index(kind), -1 if place is None else place, width))
-    return keys
+    """The tuples that are compared as the recipes of the plan are."""
+    return [recipe_key((kind, place, width)) for (kind, _, width), place in zip(plan, choice_of(table, plan))]
 
 
 def plan_order(table, first, second):

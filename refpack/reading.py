@@ -2,8 +2,9 @@
 
 from refpack.errors import BadSection, BadValues, CircularReferences
 from refpack.parsing import parsed
+from refpack.plans import sizes_with
 from refpack.references import computing_order
-from refpack.sections import section_size, stored_values
+from refpack.sections import stored_values
 from refpack.tables import header_size, label_count_of
 
 
@@ -39,23 +40,28 @@ def _named_recipe(parts, recipe):
     return kind, None if reference is None else parts[reference][0], width
 
 
+def read_with_sections(numbers):
+    """The table and the plan of a file, and the sections that it has."""
+    contents = parsed(numbers)
+    table = computed(contents)
+    _, parts = contents
+    plan = [_named_recipe(parts, recipe) for _, _, recipe, _ in parts]
+    return table, tuple(plan), tuple([section for _, _, _, section in parts])
+
+
 def read_file(numbers):
     """The table of a file, and the plan with its recipes."""
-    contents = parsed(numbers)
-    _, parts = contents
-    table = computed(contents)
-    return table, tuple([_named_recipe(parts, recipe) for _, _, recipe, _ in parts])
+    table, plan, _ = read_with_sections(numbers)
+    return table, plan
 
 
 def listed(numbers):
     """What each column of a file has: recipe, numbers of entries and patches, place and size of its section."""
-    table, plan = read_file(numbers)
-    _, parts = parsed(numbers)
+    table, plan, sections = read_with_sections(numbers)
     place = header_size(table)
     found = []
-    for (name, _, _, section), (kind, reference, width) in zip(parts, plan):
+    for column, recipe, section, size in zip(table, plan, sections, sizes_with(plan, sections)):
         entries, patches, _ = section
-        size = section_size(width, section)
-        found.append((name, kind, reference, width, len(entries), len(patches), place, size))
+        found.append((column[0], *recipe, len(entries), len(patches), place, size))
         place = place + size
     return tuple(found)

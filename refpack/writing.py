@@ -16,11 +16,9 @@ def _text_numbers(text):
 
 def _head_numbers(name, labels):
     """The integers of a column in the header."""
-    numbers = _text_numbers(name)
-    if labels is None:
-        return [*numbers, 0]
-    numbers.append(len(labels))
-    for label in labels:
+    many = 0 if labels is None else len(labels)
+    numbers = [*_text_numbers(name), many]
+    for label in labels or ():
         numbers.extend(_text_numbers(label))
     return numbers
 

@@ -1,5 +1,8 @@
 """Files, contents and tables made at random, and files read slowly, word by word, for comparison."""
 
+from refpack.sections import entries_of, section_with
+from refpack.writing import written
+
 KINDS = ("frame", "step", "dictionary", "offset", "lookup")
 LETTERS = "ABCDEFGHIJKLMNOPQRSTUVWXYZabcdefghijklmnopqrstuvwxyz"
 STRING_CODES = [code for code in range(32, 127) if code != 37]
@@ -249,3 +252,36 @@ def random_plan(source, table):
         else:
             recipes[place] = source.choice(KINDS[:3]), None, width
     return tuple(recipes[place] for place in range(len(table)))
+
+
+def values_of(table, name):
+    return next((values for other, _, values in table if other == name), None)
+
+
+def loose_section(source, section, rows):
+    """A section that stores the same values, but with patches that are not necessary."""
+    entries, patches, codes = section
+    patched = dict(patches)
+    values = dict(rows)
+    for row in values:
+        if source.random() < 0.2:
+            patched[row] = values[row]
+    return entries, tuple(sorted(patched.items())), codes
+
+
+def random_file(source, table):
+    """Any file of the table: its entries and patches are seldom those that packing chooses."""
+    parts = []
+    names = [column[0] for column in table]
+    for (name, labels, values), (kind, reference, width) in zip(table, random_plan(source, table)):
+        others = values_of(table, reference)
+        entries = entries_of(kind, width, values, others)
+        if source.random() < 0.5:
+            entries = tuple(entry + source.choice((0, 0, 1, -2)) for entry in entries)
+        if kind == "dictionary" and source.random() < 0.5:
+            entries = source.choice((entries[1:], (*entries, *entries), (*entries, 5)))
+        section = section_with(kind, width, entries, values, others)
+        section = loose_section(source, section, enumerate(values))
+        place = None if reference is None else names.index(reference)
+        parts.append((name, labels, (kind, place, width), section))
+    return written((len(table[0][2]), tuple(parts)))

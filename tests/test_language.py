@@ -91,9 +91,14 @@ class LanguageTests(unittest.TestCase):
                 self.assertNotIn("%", node.value, name)
 
     def test_names(self):
-        for name, node in nodes(ast.Name):
+        parsed = list(nodes(ast.AST))
+        decorators = [id(decorator) for _, node in parsed for decorator in getattr(node, "decorator_list", ())]
+        for name, node in parsed:
+            if not isinstance(node, ast.Name):
+                continue
             if isinstance(node.ctx, ast.Load):
-                self.assertTrue(node.id not in PYTHON_BUILTINS or node.id in BUILTINS, (name, node.id))
+                self.assertTrue(node.id not in PYTHON_BUILTINS or node.id in BUILTINS or id(node) in decorators,
+                                (name, node.id))
             else:
                 self.assertNotIn(node.id, PYTHON_BUILTINS, name)
             self.assertNotIn(node.id, BARRED, name)
