@@ -24,10 +24,10 @@ def load_of(pairs, column, reference):
 
 def _excess_with(costs, pairs, column, references):
     """The excess of the column, which can have these references."""
-    overloads = [0]
+    found = [0]
     for reference in references:
-        overloads.append(load_of(pairs, column, reference) - arc_cost(costs, column, reference))
-    return max(overloads)
+        found.append(load_of(pairs, column, reference) - arc_cost(costs, column, reference))
+    return max(found)
 
 
 def excesses_of(costs, pairs, fixed):

@@ -55,7 +55,8 @@ def _section_numbers(recipe, section):
 def written(contents):
     """The file that says this: a number of rows, and a part for each column."""
     rows, parts = contents
-    numbers = _header_numbers(rows, [(name, labels) for name, labels, _, _ in parts])
+    # A list of its own, which alone is changed here: properties of stores call this.
+    numbers = list(_header_numbers(rows, [(name, labels) for name, labels, _, _ in parts]))
     for _, _, recipe, section in parts:
         numbers.extend(_section_numbers(recipe, section))
     return tuple(numbers)

@@ -1,8 +1,10 @@
 """What of the language of the package can be seen in its text: sizes, imports, words, characters."""
 
 import ast
+import io
 import os
 import re
+import tokenize
 import unittest
 
 PACKAGE = os.path.join(os.path.dirname(os.path.dirname(os.path.abspath(__file__))), "refpack")
@@ -14,6 +16,11 @@ BARRED = (
     "mro elements open input law version_info with_traceback add_note type typing enum Enum Generic "
     "Protocol ABC namedtuple NamedTuple TypedDict dataclass overload contextmanager abstractmethod"
 ).split()
+WORDS_BARRED = (
+    "type typing typing_extensions enum Enum IntEnum StrEnum Flag IntFlag Generic Protocol ABC ABCMeta namedtuple "
+    "NamedTuple TypedDict TYPE_CHECKING abstractmethod"
+).split()
+PARTS_BARRED = ("dataclass", "overload", "contextmanager")
 PYTHON_BUILTINS = set(dir(__builtins__) if not isinstance(__builtins__, dict) else __builtins__)
 
 
@@ -35,6 +42,22 @@ def nodes(*classes):
         for node in ast.walk(tree):
             if isinstance(node, classes):
                 yield name, node
+
+
+def docstrings(tree):
+    """The rows at which docstrings begin."""
+    found = []
+    for node in ast.walk(tree):
+        if isinstance(node, (ast.Module, ast.ClassDef, ast.FunctionDef)) and ast.get_docstring(node) is not None:
+            found.append(node.body[0].lineno)
+    return found
+
+
+def plain_tokens(text):
+    """What stands in a file but for its comments and docstrings."""
+    rows = docstrings(ast.parse(text))
+    return [token for token in tokenize.generate_tokens(io.StringIO(text).readline)
+            if token.type != tokenize.COMMENT and not (token.type == tokenize.STRING and token.start[0] in rows)]
 
 
 class LanguageTests(unittest.TestCase):
@@ -108,6 +131,20 @@ class LanguageTests(unittest.TestCase):
         for name, node in nodes(ast.arg):
             self.assertNotIn(node.arg, PYTHON_BUILTINS, name)
             self.assertNotIn(node.arg, BARRED, name)
+
+    def test_words(self):
+        for name, text in texts().items():
+            for token in plain_tokens(text):
+                for word in re.findall(r"\w+", token.string):
+                    self.assertNotIn(word, WORDS_BARRED, (name, token.start[0]))
+                for part in PARTS_BARRED:
+                    self.assertNotIn(part, token.string, (name, token.start[0]))
+
+    def test_words_in_comments_and_docstrings_are_free(self):
+        text = '"""A type."""\n\nKEY = 1  # no type\n\n\ndef told():\n    """The type."""\n    return "overloaded"\n'
+        self.assertEqual([token.string for token in plain_tokens(text) if token.type == tokenize.STRING],
+                         ['"overloaded"'])
+        self.assertNotIn("type", "".join(token.string for token in plain_tokens(text)))
 
     def test_no_local_name_is_imported(self):
         for name, tree in trees().items():
