@@ -1,6 +1,6 @@
 """Source components of columns along tight arcs, and arcs that enter a set of columns."""
 
-from refpack.least import arc_cost, options_of
+from refpack.least import arc_cost, cost_place, options_of
 
 
 def _tight_sources(costs, options, column):
@@ -54,7 +54,7 @@ def _lowered_row(row, column, references, members, amount):
     found = list(row)
     for reference in references:
         if _enters(members, column, reference):
-            place = column if reference is None else reference
+            place = cost_place(column, reference)
             found[place] = found[place] - amount
     return tuple(found)
 

@@ -4,9 +4,14 @@ from refpack.errors import CircularReferences
 from refpack.references import circle_of
 
 
+def cost_place(column, reference):
+    """The index among the costs of a column at which the one with this reference, or without one, stands."""
+    return column if reference is None else reference
+
+
 def arc_cost(costs, column, reference):
     """The cost of a column with this reference, or without one."""
-    return costs[column][column if reference is None else reference]
+    return costs[column][cost_place(column, reference)]
 
 
 def total_cost(costs, choice):
@@ -114,6 +119,24 @@ def count_least(costs, *, fixed=()):
 def with_options(options, column, references):
     """The options, but with other ones for a column."""
     return (*options[:column], tuple(references), *options[column + 1:])
+
+
+def cheapest_branches(costs, families, column):
+    """What the column refers to in the cheapest of all choices that any of the families of options allows.
+
+    A dict from the reference, or None, to the families that allow such choices, narrowed to this reference.
+    """
+    found = []
+    for options in families:
+        for reference in options[column]:
+            narrowed = with_options(options, column, (reference,))
+            found.append((reference, narrowed, least_with(costs, narrowed)))
+    least = min([total for _, _, total in found if total is not None])
+    branches = {}
+    for reference, narrowed, total in found:
+        if total == least:
+            branches.setdefault(reference, []).append(narrowed)
+    return branches
 
 
 def switch_of(costs, column, reference, *, fixed=()):

@@ -1,7 +1,7 @@
 """The smallest files of a table, and their plans."""
 
-from refpack.least import least_total, least_with, options_of, with_options
-from refpack.plans import file_size, recipe_key
+from refpack.least import cheapest_branches, least_total, options_of
+from refpack.plans import file_size, named_recipe, recipe_key
 from refpack.pricing import costs_of, recipe_for
 from refpack.tables import header_size, place_of
 from refpack.writing import encode
@@ -22,28 +22,31 @@ def least_size(table, *, fixed=()):
     return header_size(table) + least_total(costs_of(table), fixed=places)
 
 
-def _first_recipe(table, costs, options, column):
-    """The first recipe of the column with which a plan can still be least; its reference is an index or None."""
-    least = least_with(costs, options)
+def _first_recipe(table, column, references):
+    """The first recipe of the column with one of the references; its reference is an index or None."""
     found = []
-    for reference in options[column]:
-        if least_with(costs, with_options(options, column, (reference,))) == least:
-            # Of all tied recipes with this reference the best one is the first.
-            kind, width, _ = recipe_for(table, column, reference)
-            found.append((kind, reference, width))
+    for reference in references:
+        # Of all tied recipes with this reference the best one is the first.
+        kind, width, _ = recipe_for(table, column, reference)
+        found.append((kind, reference, width))
     return min(found, key=recipe_key)
+
+
+def first_plan_within(table, costs, families):
+    """The first plan with the smallest file of those whose choices one of the families of options allows."""
+    plan = []
+    for column in range(len(table)):
+        branches = cheapest_branches(costs, families, column)
+        recipe = _first_recipe(table, column, list(branches))
+        families = branches[recipe[1]]
+        plan.append(named_recipe(table, recipe))
+    return tuple(plan)
 
 
 def first_least_plan(table, *, fixed=()):
     """The first least plan."""
     options = options_of(len(table), fixed_places(table, fixed))
-    costs = costs_of(table)
-    plan = []
-    for column in range(len(table)):
-        kind, reference, width = _first_recipe(table, costs, options, column)
-        options = with_options(options, column, (reference,))
-        plan.append((kind, None if reference is None else table[reference][0], width))
-    return tuple(plan)
+    return first_plan_within(table, costs_of(table), [options])
 
 
 def is_least_plan(table, plan):

@@ -1,9 +1,9 @@
 """Plans: one recipe for each column of a table."""
 
 from refpack.errors import CircularReferences
-from refpack.references import chained_columns, circle_of
+from refpack.references import chained_columns, circle_of, reference_key
 from refpack.sections import KINDS, section_of, section_size
-from refpack.tables import header_size, place_of
+from refpack.tables import header_size, name_at, place_of, places_of
 
 
 def choice_of(table, plan):
@@ -46,7 +46,13 @@ def file_size(table, plan):
 def recipe_key(recipe):
     """A tuple that is compared as recipes for a column are; the reference of the recipe is an index or None."""
     kind, place, width = recipe
-    return KINDS.index(kind), -1 if place is None else place, width
+    return KINDS.index(kind), reference_key(place), width
+
+
+def named_recipe(table, recipe):
+    """The recipe with the name of the reference in the place of its index."""
+    kind, place, width = recipe
+    return kind, name_at(table, place), width
 
 
 def _sort_keys(table, plan):
@@ -66,5 +72,5 @@ def plan_order(table, first, second):
 def needed_columns(table, plan, names):
     """The names of the columns whose sections are needed, in the order of the table."""
     choice = choice_of(table, plan)
-    places = [place_of(table, name) for name in names]
+    places = places_of(table, names)
     return tuple([table[place][0] for place in chained_columns(choice, places)])

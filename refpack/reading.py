@@ -2,8 +2,8 @@
 
 from refpack.errors import BadSection, BadValues, CircularReferences
 from refpack.parsing import parsed
-from refpack.plans import sizes_with
-from refpack.references import computing_order
+from refpack.plans import named_recipe, sizes_with
+from refpack.references import computing_order, reached_columns
 from refpack.sections import stored_values
 from refpack.tables import header_size, label_count_of
 
@@ -25,19 +25,21 @@ def values_in(parts, order):
     return found
 
 
+def values_reached(parts, places):
+    """The values of these columns and of all that they refer to, by their indices; other columns are not looked at."""
+    choice = choice_in(parts)
+    reached = reached_columns(choice, places)
+    values = values_in(parts, [place for place in computing_order(choice) if place in reached])
+    if len(values) < len(reached):
+        raise CircularReferences("a column cannot be computed")
+    return values
+
+
 def computed(contents):
     """The table that a number of rows and parts give."""
     _, parts = contents
-    values = values_in(parts, computing_order(choice_in(parts)))
-    if len(values) < len(parts):
-        raise CircularReferences("a column cannot be computed")
+    values = values_reached(parts, tuple(range(len(parts))))
     return tuple([(name, labels, values[place]) for place, (name, labels, _, _) in enumerate(parts)])
-
-
-def _named_recipe(parts, recipe):
-    """The recipe with the name of the reference in the place of its index."""
-    kind, reference, width = recipe
-    return kind, None if reference is None else parts[reference][0], width
 
 
 def read_with_sections(numbers):
@@ -45,7 +47,7 @@ def read_with_sections(numbers):
     contents = parsed(numbers)
     table = computed(contents)
     _, parts = contents
-    plan = [_named_recipe(parts, recipe) for _, _, recipe, _ in parts]
+    plan = [named_recipe(table, recipe) for _, _, recipe, _ in parts]
     return table, tuple(plan), tuple([section for _, _, _, section in parts])
 
 

@@ -3,6 +3,11 @@
 from refpack.errors import CircularReferences
 
 
+def reference_key(reference):
+    """An integer that is compared as references are: None comes before all columns."""
+    return -1 if reference is None else reference
+
+
 def _path_from(choice, column):
     """The columns that are met by following references from the column, each one once."""
     path = []
@@ -36,9 +41,15 @@ def chain_of(choice, column):
 
 def chained_columns(choice, columns):
     """The columns of the chains of the columns, ascending."""
+    chains = [chain_of(choice, column) for column in columns]
+    return tuple(sorted(set([column for chain in chains for column in chain])))
+
+
+def reached_columns(choice, columns):
+    """The columns and all that are reached from them by following references, on circles too, ascending."""
     found = set()
     for column in columns:
-        for other in chain_of(choice, column):
+        for other in _path_from(choice, column):
             found.add(other)
     return tuple(sorted(found))
 

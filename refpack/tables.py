@@ -96,6 +96,16 @@ def place_of(table, name):
     raise UnknownColumn(name)
 
 
+def places_of(table, names):
+    """The indices of the columns with these names."""
+    return tuple([place_of(table, name) for name in names])
+
+
+def name_at(table, place):
+    """The name of the column at this index, None in the place of a reference that is None."""
+    return None if place is None else table[place][0]
+
+
 def cell_of(column, value):
     """The cell of a value of the column."""
     labels = column[1]

@@ -3,8 +3,9 @@
 import random
 import unittest
 
-from slow_costs import random_fixed, random_pairs
+from slow_costs import random_pairs
 from slow_files import ORDERS, SMALL, TRIPS, random_file, random_table
+from slow_plans import named_fixed, named_pairs
 
 from refpack.certificates import account_of, certify, decide, lower_bound, named, numbered, proves
 from refpack.duals import dual_bound, dual_of, excess_of, load_of
@@ -20,18 +21,6 @@ CERTIFICATE = (
 )
 CHANGED = (("planned", None, (603, 590, 615, 605)), *TRIPS[1:])
 EMPTY = (("a", None, ()), ("b", None, ()))
-
-
-def named_fixed(source, table):
-    names = [column[0] for column in table]
-    return tuple((names[column], None if reference is None else names[reference])
-                 for column, reference in random_fixed(source, len(table)))
-
-
-def named_pairs(source, table):
-    """Some certificate with names in any order."""
-    return tuple((tuple(table[place][0] for place in members), amount)
-                 for members, amount in random_pairs(source, len(table)))
 
 
 class CertifyTests(unittest.TestCase):

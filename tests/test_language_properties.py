@@ -104,8 +104,9 @@ def faults_of(node):
 def called_by(node, known):
     """The names of own functions, methods and properties that a function may run."""
     found = []
+    bound = bound_names(node)
     for each in ast.walk(node):
-        if isinstance(each, ast.Name) and isinstance(each.ctx, ast.Load) and each.id in known:
+        if isinstance(each, ast.Name) and each.id in known and each.id not in bound:
             found.append(each.id)
         elif isinstance(each, ast.Attribute) and each.attr in known:
             found.append(each.attr)

@@ -3,68 +3,18 @@
 import random
 import unittest
 
-from slow_costs import EVERY, random_fixed
-from slow_files import KINDS, ORDERS, TRIPS, random_file, random_plan, random_table
+from slow_files import ORDERS, TRIPS, random_file, random_plan, random_table
+from slow_plans import SlowPlans, named_fixed
 
 from refpack.errors import CircularReferences, UnknownColumn
 from refpack.packing import first_least_plan, is_least_plan, least_size, pack
 from refpack.plans import file_size, plan_order
 from refpack.reading import read_file
-from refpack.sections import section_of, section_size
 from refpack.writing import encode, header_of
 
 # The first least choice of this table is (1, None, None), but the first least plan has (2, None, None).
 STAIRS = (("a", None, (0, 0, 300, 300)), ("b", None, (0, 0, 1, 1)), ("c", None, (0, 0, 200, 200)))
 EMPTY = (("a", None, ()), ("b", None, ()))
-
-
-def tied_by_trying(values, reference):
-    """The least size, and all kinds and widths that have it, in order."""
-    kinds = KINDS[:3] if reference is None else KINDS[3:]
-    sizes = [(kind, width, section_size(width, section_of(kind, width, values, reference)))
-             for kind in kinds for width in range(33)]
-    least = min(size for _, _, size in sizes)
-    return least, [(kind, width) for kind, width, size in sizes if size == least]
-
-
-def key_of(kind, place, width):
-    return KINDS.index(kind), -1 if place is None else place, width
-
-
-class SlowPlans:
-    """All plans of a table, by trying all choices, kinds and widths."""
-
-    def __init__(self, table, fixed=()):
-        self.table = table
-        places = [None, *range(len(table))]
-        self.tied = {(place, other): tied_by_trying(table[place][2], None if other is None else table[other][2])
-                     for place in range(len(table)) for other in places if other != place}
-        names = [column[0] for column in table]
-        self.choices = [choice for choice in EVERY[len(table)] if all(
-            choice[names.index(name)] == (None if other is None else names.index(other)) for name, other in fixed)]
-
-    def total(self, choice):
-        return sum(self.tied[arc][0] for arc in enumerate(choice))
-
-    def least_total(self):
-        return min(self.total(choice) for choice in self.choices)
-
-    def first(self):
-        """The first least plan."""
-        found = []
-        for choice in self.choices:
-            if self.total(choice) == self.least_total():
-                found.append([key_of(self.tied[arc][1][0][0], arc[1], self.tied[arc][1][0][1])
-                              for arc in enumerate(choice)])
-        return tuple((KINDS[kind], None if place < 0 else self.table[place][0], width)
-                     for kind, place, width in min(found))
-
-
-def named_fixed(source, table):
-    """Fixed references by names that are not circular."""
-    names = [column[0] for column in table]
-    return tuple((names[column], None if reference is None else names[reference])
-                 for column, reference in random_fixed(source, len(table)))
 
 
 class LeastSizeTests(unittest.TestCase):
