@@ -22,7 +22,8 @@ def _all_tied_recipes(table):
 
 
 def _least_choices(table):
-    return list(each_least(costs_of(table)))
+    costs = costs_of(table)
+    return list(each_least(costs))
 
 
 def _plans_from(tied, choice, first):

@@ -179,6 +179,12 @@ def section_in(numbers, place, rows, columns):
     return recipe, (entries, patches, codes), end
 
 
+def _check_end(numbers, place):
+    """The file ends at this place."""
+    if place < len(numbers):
+        raise BadFile(place, "more")
+
+
 def parsed(numbers):
     """The number of rows and the parts that a file says."""
     rows, heads, end = header_in(numbers)
@@ -186,6 +192,23 @@ def parsed(numbers):
     for name, labels in heads:
         recipe, section, end = section_in(numbers, end, rows, len(heads))
         parts.append((name, labels, recipe, section))
-    if end < len(numbers):
-        raise BadFile(end, "more")
+    _check_end(numbers, end)
     return rows, tuple(parts)
+
+
+def arrived_sections(numbers):
+    """The number of sections that are whole in what may be only the beginning of a file.
+
+    No fault but the end is passed over.
+    """
+    many = 0
+    try:
+        rows, heads, end = header_in(numbers)
+        for _ in heads:
+            _, _, end = section_in(numbers, end, rows, len(heads))
+            many += 1
+        _check_end(numbers, end)
+    except BadFile as fault:
+        if fault.reason != "end":
+            raise
+    return many

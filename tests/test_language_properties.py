@@ -150,7 +150,7 @@ class PropertyTests(unittest.TestCase):
     def test_properties_change_nothing_and_call_nothing_that_is_passed(self):
         known = functions()
         starts = [name for name, nodes in known.items() if any(is_property(node) for node in nodes)]
-        self.assertTrue({"table", "plan", "certificate", "slack", "file", "account"} <= set(starts))
+        self.assertTrue({"table", "plan", "certificate", "slack", "file", "account", "counters"} <= set(starts))
         starts += [name for name in ("__len__", "__eq__", "__str__", "__repr__") if name in known]
         names = reached(starts, known)
         self.assertIn("written", names)
